@@ -1,0 +1,1 @@
+"""Sounds made by voices: eight of them, sample by sample, the same everywhere."""
