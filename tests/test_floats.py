@@ -3,7 +3,7 @@
 import unittest
 from fractions import Fraction
 
-from tests.calls import FLOATS, MOST_Z, desk_after, once_open, opening
+from tests.calls import FLOATS, MOST_Z, desk_after, echo, once_open, opening
 
 LEAST = Fraction(1, 2 ** 20)
 UNIT = Fraction(1, 2 ** 149)
@@ -63,7 +63,8 @@ class EachFloat(unittest.TestCase):
 class WhatIsKept(unittest.TestCase):
     def kept(self, make, name, written):
         desk = desk_after(opening(), make(5, **{name: written}))
-        return getattr(desk.voices[5], name) * UNIT
+        holder = desk.echo if make is echo else desk.voices[5]
+        return getattr(holder, name) * UNIT
 
     def test_the_very_float(self):
         for make, name, most in FLOATS:

@@ -24,6 +24,11 @@ BUILT_IN = (
     " ValueError KeyError"
 ).split()
 
+METHODS = (
+    "append clear copy count endswith extend find get index insert items join keys pop remove replace reverse"
+    " setdefault split startswith strip update values bit_length"
+).split()
+
 
 def sources():
     return [(path, path.read_text(encoding="utf-8")) for path in sorted(PACKAGE.rglob("*.py"))]
@@ -38,6 +43,21 @@ def names(source):
     for node in nodes(source):
         found += [getattr(node, field) for field in ("id", "attr", "arg", "name") if hasattr(node, field)]
     return [name for name in found if name]
+
+
+def is_plain(value, functions):
+    """A written value, or a list, tuple or dict of such and of functions defined above."""
+    if isinstance(value, ast.UnaryOp):
+        value = value.operand
+    if isinstance(value, (ast.List, ast.Tuple)):
+        return all(is_plain(part, functions) for part in value.elts)
+    if isinstance(value, ast.Dict):
+        return all(is_plain(part, functions) for part in value.keys + value.values)
+    return isinstance(value, ast.Constant) or isinstance(value, ast.Name) and value.id in functions
+
+
+def drawn_from(source):
+    return [node.module.split(".")[1] for node in nodes(source) if isinstance(node, ast.ImportFrom)]
 
 
 class Language(unittest.TestCase):
@@ -80,6 +100,41 @@ class Language(unittest.TestCase):
                 if isinstance(node, ast.ImportFrom):
                     self.assertEqual(node.level, 0)
                     self.assertTrue(node.module.startswith("voicesounds."), node.module)
+        self.each(holds)
+
+    def test_no_two_files_draw_from_one_another(self):
+        left = {path.stem: drawn_from(source) for path, source in sources()}
+        while left:
+            free = [name for name, drawn in left.items() if not set(drawn) & set(left)]
+            self.assertTrue(free, left)
+            left = {name: drawn for name, drawn in left.items() if name not in free}
+
+    def test_the_top_of_a_file(self):
+        def holds(path, source):
+            functions = []
+            bound = []
+            for node in ast.parse(source).body:
+                if isinstance(node, ast.FunctionDef):
+                    functions.append(node.name)
+                if isinstance(node, ast.Assign):
+                    self.assertTrue(is_plain(node.value, functions), node.lineno)
+                bound += [target.id for target in getattr(node, "targets", [])] + [getattr(node, "name", node)]
+            self.assertEqual(len(bound), len(set(bound)))
+        self.each(holds)
+
+    def test_powers_have_a_written_exponent(self):
+        def holds(path, source):
+            for node in nodes(source):
+                if isinstance(node, ast.BinOp) and isinstance(node.op, ast.Pow):
+                    self.assertIn(getattr(node.right, "value", None), range(65))
+        self.each(holds)
+
+    def test_methods(self):
+        def holds(path, source):
+            for node in nodes(source):
+                if isinstance(node, ast.Call) and isinstance(node.func, ast.Attribute):
+                    self.assertIn(node.func.attr, METHODS)
+                self.assertNotIsInstance(node, (ast.Is, ast.IsNot))
         self.each(holds)
 
     def test_names_of_pythons_own(self):

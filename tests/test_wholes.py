@@ -2,7 +2,7 @@
 
 import unittest
 
-from tests.calls import FAR, WHOLES, once_open
+from tests.calls import FAR, WHOLES, blend, once_open, play
 
 
 class Edges(unittest.TestCase):
@@ -10,7 +10,8 @@ class Edges(unittest.TestCase):
         for make, name, least, most in WHOLES:
             for number in (least, least + 1, (least + most) // 2, most - 1, most):
                 with self.subTest(call=make.__name__, name=name, number=number):
-                    self.assertEqual(once_open(make(**{name: number})), 0)
+                    expected = number if make in (play, blend) and name == "n" else 0
+                    self.assertEqual(once_open(make(**{name: number})), expected)
 
     def test_beyond(self):
         for make, name, least, most in WHOLES:
@@ -23,6 +24,18 @@ class Edges(unittest.TestCase):
         self.assertEqual(once_open([2, 9, 7, 3, 4294967296, 1, 0, 1, 0, 1, 0, 0]), -2)
         self.assertEqual(once_open([5, 2, 0, 2147483648, 0]), 0)
         self.assertEqual(once_open([5, 2, 0, 2147483649, 0]), -2)
+        self.assertEqual(once_open([7, 5, 1024, 1, 0, 1, 0, 0]), 0)
+        self.assertEqual(once_open([7, 5, 1025, 1, 0, 1, 0, 0]), -2)
+        self.assertEqual(once_open([8, 1, 256, 0]), 256)
+        self.assertEqual(once_open([8, 1, 257, 0]), -2)
+        self.assertEqual(once_open([8, 1, 0, 0]), -2)
+        self.assertEqual(once_open([11, 4, 1, 32767, -5, 7, 0]), 1)
+        self.assertEqual(once_open([11, 4, 1, 32768, -5, 7, 0]), -2)
+        self.assertEqual(once_open([11, 4, 1, -1, -5, 7, 0]), -2)
+        self.assertEqual(once_open([11, 2, 513, 5, 0]), -2)
+        self.assertEqual(once_open([11, 2, -1, 5, 0]), -2)
+        self.assertEqual(once_open([12, 1, 513, 0]), -2)
+        self.assertEqual(once_open([12, 1, -1, 0]), -2)
 
 
 if __name__ == "__main__":

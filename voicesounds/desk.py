@@ -1,9 +1,16 @@
 """The desk that the calls are made on, and what each of them answers."""
 
 from voicesounds.checks import NotAsTold, handed_float, whole_within
+from voicesounds.echo import Echo
+from voicesounds.floats import told_float
+from voicesounds.mix import sample_of_all
+from voicesounds.samples import blended, measured
 from voicesounds.voice import FIRST_DRAW, LET_GO, RISING, STILL, Voice
 
 VOICE_COUNT = 8
+MOST_ECHO = 1024
+MOST_PLAYED = 256
+MOST_IN_ROW = 512
 OPENING = 1
 
 DONE = 0
@@ -19,6 +26,7 @@ class NothingOpen(ValueError):
 class Desk:
     def __init__(self):
         self.voices = []
+        self.echo = Echo(0, 0, 0)
 
 
 def voice_at(desk, k):
@@ -29,6 +37,7 @@ def voice_at(desk, k):
 
 def begin_anew(desk, numbers):
     desk.voices = [Voice() for k in range(VOICE_COUNT)]
+    desk.echo = Echo(0, 0, 0)
     return [DONE]
 
 
@@ -90,6 +99,43 @@ def turn_off(desk, numbers):
     return [DONE]
 
 
+def set_echo(desk, numbers):
+    length = whole_within(numbers[0], 0, MOST_ECHO)
+    feed = handed_float(numbers[1], numbers[2], 1)
+    heard = handed_float(numbers[3], numbers[4], 1)
+    desk.echo = Echo(length, feed, heard)
+    return [DONE]
+
+
+def play(desk, numbers):
+    count = whole_within(numbers[0], 1, MOST_PLAYED)
+    answer = [count]
+    for k in range(count):
+        answer.extend(sample_of_all(desk.voices, desk.echo))
+    return answer
+
+
+def tell_voice(desk, numbers):
+    voice = voice_at(desk, numbers[0])
+    return [voice.stage, voice.phase] + told_float(voice.env) + told_float(voice.low) + told_float(voice.band)
+
+
+def count_sounding(desk, numbers):
+    return [len([voice for voice in desk.voices if voice.stage != STILL])]
+
+
+def blend(desk, numbers):
+    count = whole_within(numbers[0], 0, MOST_IN_ROW)
+    g = whole_within(numbers[1], 0, 32767)
+    second = 2 + count
+    return [count] + blended(numbers[2:second], numbers[second:], g)
+
+
+def measure(desk, numbers):
+    whole_within(numbers[0], 0, MOST_IN_ROW)
+    return [DONE] + measured(numbers[1:])
+
+
 ACTIONS = {
     1: begin_anew,
     2: set_voice,
@@ -97,6 +143,12 @@ ACTIONS = {
     4: set_shape,
     5: turn_on,
     6: turn_off,
+    7: set_echo,
+    8: play,
+    9: tell_voice,
+    10: count_sounding,
+    11: blend,
+    12: measure,
 }
 
 
